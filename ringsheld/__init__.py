@@ -1,0 +1,1 @@
+"""Friends and foes: groups of people that nobody would leave."""

@@ -1,0 +1,64 @@
+"""The package: what lies in it, what its calls are handed, and that it prints, reads and imports nothing."""
+
+import ast
+import contextlib
+import inspect
+import io
+import pathlib
+import unittest
+
+import ringsheld
+from ringsheld import people
+
+FOLDER = pathlib.Path(ringsheld.__file__).parent
+CALLS = {
+    "rings": ["n", "friends"],
+}
+OWN_NAMES = ("len", "range")
+
+
+def sources():
+    return [(path.name, path.read_text(encoding="utf-8")) for path in sorted(FOLDER.glob("*.py"))]
+
+
+class Package(unittest.TestCase):
+    def test_the_calls_and_what_they_are_handed(self):
+        for name, arguments in CALLS.items():
+            with self.subTest(name):
+                self.assertEqual(list(inspect.signature(getattr(people, name)).parameters), arguments)
+
+    def test_nothing_is_printed(self):
+        said = io.StringIO()
+        with contextlib.redirect_stdout(said), contextlib.redirect_stderr(said):
+            for name in CALLS:
+                getattr(people, name)(3, [2, 4, 1])
+                getattr(people, name)(0, [])
+        self.assertEqual(said.getvalue(), "")
+
+    def test_nothing_is_imported(self):
+        for name, text in sources():
+            for node in ast.walk(ast.parse(text)):
+                self.assertNotIsInstance(node, (ast.Import, ast.ImportFrom), name)
+
+    def test_only_own_defs_and_plain_names_are_called(self):
+        for name, text in sources():
+            tree = ast.parse(text)
+            defs = [node.name for node in tree.body if isinstance(node, ast.FunctionDef)]
+            for node in ast.walk(tree):
+                if isinstance(node, ast.Call) and isinstance(node.func, ast.Name):
+                    self.assertIn(node.func.id, defs + list(OWN_NAMES), name)
+
+    def test_the_folder_holds_plain_files_alone(self):
+        lying = sorted(path.name for path in FOLDER.iterdir() if path.name != "__pycache__")
+        self.assertEqual(lying, ["__init__.py", "people.py"])
+
+    def test_sizes_and_signs(self):
+        for name, text in sources():
+            rows = text.split("\n")
+            self.assertLessEqual(len(rows), 400, name)
+            for row in rows:
+                self.assertLessEqual(len(row), 120, name)
+                self.assertTrue(all(" " <= sign <= "~" for sign in row), (name, row))
+            for node in ast.walk(ast.parse(text)):
+                if isinstance(node, ast.FunctionDef):
+                    self.assertLessEqual(node.end_lineno - node.lineno + 1, 40, node.name)
