@@ -64,3 +64,46 @@ def rings(n, friends):
         else:
             groups.append(groups[first])
     return [found] + groups
+
+
+def size(s):
+    """How many people are in the set s."""
+    left = s
+    many = 0
+    while left != 0:
+        many = many + (left & 1)
+        left = left >> 1
+    return many
+
+
+def is_close(friends, s):
+    """Whether each of the set s has each other one of it for a friend."""
+    for i in range(len(friends)):
+        # Nobody is their own friend, so person i is put beside the friends of i.
+        if has_person(s, i) and s & (friends[i] | (1 << i)) != s:
+            return False
+    return True
+
+
+def greatest_close(friends, s):
+    """The greatest close set within the set s; of as many the lesser number."""
+    best = 0
+    # The sets rise, so one that is only as great as the best so far is passed over.
+    for t in range(s + 1):
+        if t & s == t and size(t) > size(best) and is_close(friends, t):
+            best = t
+    return best
+
+
+def peeled(n, friends):
+    """How many sets are peeled, then these, in order."""
+    if not friends_are_told(n, friends):
+        return [REFUSED]
+    left = (1 << n) - 1
+    sets = []
+    # One person alone is close, so each turn takes somebody off.
+    while left != 0:
+        best = greatest_close(friends, left)
+        sets.append(best)
+        left = left ^ best
+    return [len(sets)] + sets

@@ -13,6 +13,7 @@ from ringsheld import people
 FOLDER = pathlib.Path(ringsheld.__file__).parent
 CALLS = {
     "rings": ["n", "friends"],
+    "peeled": ["n", "friends"],
 }
 OWN_NAMES = ("len", "range")
 
