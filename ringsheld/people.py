@@ -107,3 +107,50 @@ def peeled(n, friends):
         sets.append(best)
         left = left ^ best
     return [len(sets)] + sets
+
+
+def groups_are_told(n, groups):
+    """Whether groups tells a number below n for each of n people."""
+    if len(groups) != n:
+        return False
+    for number in groups:
+        if number >= n:
+            return False
+    return True
+
+
+def how_many_groups(groups):
+    """How many groups there are."""
+    many = 0
+    # Numbers may be left out, so those that come for the first time are counted.
+    for i in range(len(groups)):
+        if groups[i] not in groups[:i]:
+            many = many + 1
+    return many
+
+
+def group_of(groups, i):
+    """The set of all who are in the group of person i."""
+    s = 0
+    for j in range(len(groups)):
+        if groups[j] == groups[i]:
+            s = s | (1 << j)
+    return s
+
+
+def has_in(k, friends, s, i):
+    """What person i, who is in the set s, has in a group of just these."""
+    n = len(friends)
+    near = size(s & friends[i])
+    # Person i is worth nothing to i: neither a friend nor a foe.
+    far = size(s) - near - 1
+    if k == 0:
+        return near * n - far
+    return near - far * n
+
+
+def worths(n, k, friends, groups):
+    """How many groups there are, then what each person has; friends first (k 0) or foes first (k 1)."""
+    if not friends_are_told(n, friends) or k > 1 or not groups_are_told(n, groups):
+        return [REFUSED]
+    return [how_many_groups(groups)] + [has_in(k, friends, group_of(groups, i), i) for i in range(n)]

@@ -1,4 +1,4 @@
-"""What the tests of all calls share: inputs that are refused, all friends of n people, and ways to ask."""
+"""What the tests of all calls share: inputs that are refused, all friends and groups of n people, and ways to ask."""
 
 import itertools
 
@@ -59,16 +59,90 @@ REFUSALS = {
     ],
 }
 
+# What is wrong, and (n, groups) of that kind.
+GROUP_REFUSALS = {
+    "groups is too short": [(1, []), (2, [0]), (2, []), (3, [0, 1]), (3, [2]), (4, [0, 1, 2]), (5, [0] * 4), (5, [])],
+    "groups is too long": [
+        (1, [0, 0]),
+        (2, [0, 1, 0]),
+        (3, [0, 1, 2, 0]),
+        (4, [0] * 5),
+        (5, [0, 1, 2, 3, 4, 0]),
+        (1, [0] * 7),
+        (3, [0, 1, 2, 0, 1, 2, 0]),
+        (5, [0] * 7),
+    ],
+    "a number is n": [
+        (1, [1]),
+        (2, [2, 0]),
+        (2, [0, 2]),
+        (3, [3, 0, 0]),
+        (3, [0, 3, 0]),
+        (3, [0, 0, 3]),
+        (3, [3, 3, 3]),
+        (4, [0, 1, 2, 4]),
+        (5, [5, 0, 0, 0, 0]),
+        (5, [0, 1, 2, 3, 5]),
+    ],
+    "a number is above n": [(1, [2]), (3, [0, 4, 0]), (5, [0, 0, 0, 0, 6]), (5, [2147483648, 0, 0, 0, 0])],
+    "the greatest number": [
+        (1, [GREATEST]),
+        (2, [GREATEST, GREATEST]),
+        (3, [0, GREATEST, 0]),
+        (5, [GREATEST, 0, 1, 2, 3]),
+        (5, [0, 1, 2, 3, GREATEST]),
+    ],
+    "too long, and the greatest number": [(3, [GREATEST] * 7), (5, [0, 0, 0, 0, 0, 0, GREATEST])],
+}
+
 
 def all_refusals():
     """Each refusal as (what is wrong, n, friends)."""
     return [(why, n, friends) for why, cases in REFUSALS.items() for n, friends in cases]
 
 
+def all_group_refusals():
+    """Each refusal of groups as (what is wrong, n, k, friends, groups)."""
+    return [
+        (why, n, k, friends, groups)
+        for why, cases in GROUP_REFUSALS.items()
+        for n, groups in cases
+        for friends in some_friends(n)
+        for k in (0, 1)
+    ]
+
+
 def all_friends(n):
     """All friends that n people may have, list by list."""
     sets = [[s for s in range(2 ** n) if i not in people(s)] for i in range(n)]
     return [list(friends) for friends in itertools.product(*sets)]
+
+
+def some_friends(n):
+    """Friends of n people: nobody's, all others, those of a ring, those who come after, those beside one."""
+    return [
+        [0] * n,
+        [2 ** n - 1 - 2 ** i for i in range(n)],
+        [2 ** ((i + 1) % n) if n > 1 else 0 for i in range(n)],
+        [2 ** n - 2 ** (i + 1) for i in range(n)],
+        [sum(2 ** j for j in (i - 1, i + 1) if 0 <= j < n) for i in range(n)],
+    ]
+
+
+def all_numbers(n):
+    """All lists of a number below n for each person, whether numbered as they first come or not."""
+    return [list(numbers) for numbers in itertools.product(range(n), repeat=n)]
+
+
+def first_come(numbers):
+    """The same groups, numbered as they first come."""
+    order = list(dict.fromkeys(numbers))
+    return [order.index(number) for number in numbers]
+
+
+def all_groups(n):
+    """All ways of n people to be in groups, numbered as they first come."""
+    return [numbers for numbers in all_numbers(n) if numbers == first_come(numbers)]
 
 
 def people(s):
@@ -147,3 +221,98 @@ class Asked:
             answer = self.ask(n, friends)
             self.assertIs(type(answer), list)
             self.assertEqual({type(number) for number in answer}, {int}, (n, friends))
+
+
+class AskedOfGroups(Asked):
+    """What holds, besides, of each call that takes k and groups; a test case names the call in `ask_groups`."""
+
+    def ask_groups(self, n, k, friends, groups):
+        raise NotImplementedError
+
+    def ask(self, n, friends):
+        return self.ask_groups(n, 0, friends, [0] * min(n, 7))
+
+    def test_refusals_of_n_and_friends_whatever_the_rest(self):
+        for why, n, friends in all_refusals():
+            for k in (0, 1, 2):
+                for groups in ([], [0] * min(n, 7), [GREATEST] * 7, list(range(min(n, 7)))):
+                    with self.subTest(why, n=n, k=k, friends=friends, groups=groups):
+                        self.assertEqual(self.ask_groups(n, k, friends, groups), [-22])
+
+    def test_refusals_of_k(self):
+        for n in range(1, 6):
+            for friends in some_friends(n):
+                for groups in ([0] * n, list(range(n)), [], [n] * n):
+                    for k in (2, 3, 256, 2147483648, GREATEST):
+                        with self.subTest(n=n, k=k, friends=friends, groups=groups):
+                            self.assertEqual(self.ask_groups(n, k, friends, groups), [-22])
+
+    def test_refusals_of_groups(self):
+        for why, n, k, friends, groups in all_group_refusals():
+            with self.subTest(why, n=n, k=k, friends=friends, groups=groups):
+                self.assertEqual(self.ask_groups(n, k, friends, groups), [-22])
+
+    def test_refused_just_where_groups_is_not_as_told(self):
+        for n in range(1, 4):
+            for length in range(5):
+                for numbers in itertools.product(range(5), repeat=length):
+                    told = length == n and all(number < n for number in numbers)
+                    for k in (0, 1):
+                        refused = self.ask_groups(n, k, [0] * n, list(numbers)) == [-22]
+                        self.assertEqual(refused, not told, (n, k, numbers))
+
+    def test_the_numbers_of_groups_make_no_difference(self):
+        for n in range(1, 5):
+            for friends in some_friends(n):
+                for groups in all_numbers(n):
+                    for k in (0, 1):
+                        plain = self.ask_groups(n, k, friends, first_come(groups))
+                        self.assertEqual(self.ask_groups(n, k, friends, groups), plain, (k, friends, groups))
+
+    def test_friends_and_groups_are_the_same_after(self):
+        for n, k, friends, groups in self.good_and_refused():
+            handed = (list(friends), list(groups))
+            answer = self.ask_groups(n, k, *handed)
+            self.assertEqual(handed, (friends, groups), (n, k))
+            self.assertIsNot(answer, handed[0])
+            self.assertIsNot(answer, handed[1])
+
+    def test_friends_and_groups_are_not_changed_for_a_while(self):
+        for n, k, friends, groups in self.good_and_refused():
+            self.ask_groups(n, k, Untouched(friends), Untouched(groups))
+
+    def test_of_groups_too_one_list_of_whole_numbers(self):
+        for n, k, friends, groups in self.good_and_refused():
+            answer = self.ask_groups(n, k, friends, groups)
+            self.assertIs(type(answer), list)
+            self.assertEqual({type(number) for number in answer}, {int}, (n, k, friends, groups))
+
+    def test_of_groups_too_nothing_is_kept(self):
+        asked = [
+            (3, 0, [2, 4, 1], [0, 0, 0]),
+            (3, 1, [2, 4, 1], [0, 0, 0]),
+            (3, 1, [2, 4, 1], [2, 0, 2]),
+            (3, 2, [2, 4, 1], [0, 0, 0]),
+            (1, 0, [0], [0]),
+            (5, 1, [30, 29, 27, 23, 15], [4, 4, 0, 0, 1]),
+            (5, 0, [30, 29, 27, 23, 15], [4, 4, 0, 0, 5]),
+        ]
+        firsts = [list(self.ask_groups(*values)) for values in asked]
+        for turn in range(3):
+            for values, first in reversed(list(zip(asked, firsts))):
+                answer = self.ask_groups(*values)
+                self.assertEqual(answer, first)
+                answer.append(99)
+                answer[0] = 99
+
+    def good_and_refused(self):
+        """(n, k, friends, groups), good ones and such as are refused."""
+        for n in range(1, 6):
+            for friends in some_friends(n):
+                for groups in all_groups(n) + [[n - 1] * n]:
+                    for k in (0, 1, 2):
+                        yield n, k, friends, groups
+        for why, n, k, friends, groups in all_group_refusals():
+            yield n, k, friends, groups
+        for why, n, friends in all_refusals():
+            yield n, 1, friends, [0] * min(n, 7)

@@ -14,7 +14,10 @@ FOLDER = pathlib.Path(ringsheld.__file__).parent
 CALLS = {
     "rings": ["n", "friends"],
     "peeled": ["n", "friends"],
+    "worths": ["n", "k", "friends", "groups"],
 }
+GOOD = {"n": 3, "k": 1, "friends": [2, 4, 1], "groups": [0, 2, 0]}
+REFUSED = {"n": 0, "k": 2, "friends": [], "groups": []}
 OWN_NAMES = ("len", "range")
 
 
@@ -31,9 +34,9 @@ class Package(unittest.TestCase):
     def test_nothing_is_printed(self):
         said = io.StringIO()
         with contextlib.redirect_stdout(said), contextlib.redirect_stderr(said):
-            for name in CALLS:
-                getattr(people, name)(3, [2, 4, 1])
-                getattr(people, name)(0, [])
+            for name, arguments in CALLS.items():
+                for values in (GOOD, REFUSED):
+                    getattr(people, name)(*[values[argument] for argument in arguments])
         self.assertEqual(said.getvalue(), "")
 
     def test_nothing_is_imported(self):
