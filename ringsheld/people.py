@@ -149,8 +149,36 @@ def has_in(k, friends, s, i):
     return near - far * n
 
 
+def what_each_has(k, friends, groups):
+    """What each person has in their group, person by person."""
+    return [has_in(k, friends, group_of(groups, i), i) for i in range(len(friends))]
+
+
 def worths(n, k, friends, groups):
     """How many groups there are, then what each person has; friends first (k 0) or foes first (k 1)."""
     if not friends_are_told(n, friends) or k > 1 or not groups_are_told(n, groups):
         return [REFUSED]
-    return [how_many_groups(groups)] + [has_in(k, friends, group_of(groups, i), i) for i in range(n)]
+    return [how_many_groups(groups)] + what_each_has(k, friends, groups)
+
+
+def would_leave(k, w, friends, had, s):
+    """Whether the set s would leave (w 0), would leave weakly (w 1), where each person has what had tells."""
+    one_has_more = False
+    for i in range(len(friends)):
+        if has_person(s, i):
+            has = has_in(k, friends, s, i)
+            if has < had[i] or (w == 0 and has == had[i]):
+                return False
+            if has > had[i]:
+                one_has_more = True
+    return one_has_more
+
+
+def leavers(n, k, w, friends, groups):
+    """How many sets would leave (w 0), would leave weakly (w 1), then these, rising."""
+    if not friends_are_told(n, friends) or k > 1 or not groups_are_told(n, groups) or w > 1:
+        return [REFUSED]
+    had = what_each_has(k, friends, groups)
+    # From 1 on: a set that would leave has one person or more.
+    sets = [s for s in range(1, 1 << n) if would_leave(k, w, friends, had, s)]
+    return [len(sets)] + sets

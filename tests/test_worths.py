@@ -3,19 +3,7 @@
 import unittest
 
 from ringsheld import people
-from tests.cases import AskedOfGroups, all_friends, all_groups, all_numbers, some_friends
-from tests.cases import people as people_of
-
-
-def reckon_by_hand(n, k, friends, groups):
-    """The answer, each other one of the group put in by their worth."""
-    friend, foe = (n, -1) if k == 0 else (1, -n)
-    has = [0] * n
-    for i in range(n):
-        for j in range(n):
-            if i != j and groups[i] == groups[j]:
-                has[i] += friend if j in people_of(friends[i]) else foe
-    return [len(set(groups))] + has
+from tests.cases import AskedOfGroups, all_friends, all_groups, all_numbers, reckon_by_hand, some_friends
 
 
 class Worths(AskedOfGroups, unittest.TestCase):
@@ -102,5 +90,5 @@ class Worths(AskedOfGroups, unittest.TestCase):
 
     def hold_as_told(self, n, friends, groups):
         for k in (0, 1):
-            answer = reckon_by_hand(n, k, friends, groups)
+            answer = [len(set(groups))] + reckon_by_hand(n, k, friends, groups)
             self.assertEqual(people.worths(n, k, friends, groups), answer, (k, friends, groups))
