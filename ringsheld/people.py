@@ -182,3 +182,36 @@ def leavers(n, k, w, friends, groups):
     # From 1 on: a set that would leave has one person or more.
     sets = [s for s in range(1, 1 << n) if would_leave(k, w, friends, had, s)]
     return [len(sets)] + sets
+
+
+def all_ways(n):
+    """All ways of n people to be in groups, in order, each numbered as its groups first come."""
+    ways = [[]]
+    for i in range(n):
+        wider = []
+        for way in ways:
+            # Person i joins a group that is there, or the one number that comes next begins another.
+            for number in range(how_many_groups(way) + 1):
+                wider.append(way + [number])
+        ways = wider
+    return ways
+
+
+def groups_hold(k, w, friends, groups):
+    """Whether no set would leave the groups (w 0), would leave them even weakly (w 1)."""
+    had = what_each_has(k, friends, groups)
+    for s in range(1, 1 << len(friends)):
+        if would_leave(k, w, friends, had, s):
+            return False
+    return True
+
+
+def core(n, k, w, friends):
+    """How many of all ways to be in groups hold (w 0), hold weakly leaving (w 1), then the first one's groups."""
+    if not friends_are_told(n, friends) or k > 1 or w > 1:
+        return [REFUSED]
+    holding = [groups for groups in all_ways(n) if groups_hold(k, w, friends, groups)]
+    # Foes first there may be no way that holds weakly leaving, and so no first one to tell.
+    if len(holding) == 0:
+        return [0]
+    return [len(holding)] + holding[0]

@@ -16,6 +16,7 @@ CALLS = {
     "peeled": ["n", "friends"],
     "worths": ["n", "k", "friends", "groups"],
     "leavers": ["n", "k", "w", "friends", "groups"],
+    "core": ["n", "k", "w", "friends"],
 }
 GOOD = {"n": 3, "k": 1, "w": 1, "friends": [2, 4, 1], "groups": [0, 2, 0]}
 REFUSED = {"n": 0, "k": 2, "w": 2, "friends": [], "groups": []}
