@@ -215,3 +215,11 @@ def core(n, k, w, friends):
     if len(holding) == 0:
         return [0]
     return [len(holding)] + holding[0]
+
+
+def close(n, s, friends):
+    """1 if the set s is close, else 0, then the greatest close set within s (of as many the lesser number)."""
+    if not friends_are_told(n, friends) or s >> n != 0:
+        return [REFUSED]
+    told = 1 if is_close(friends, s) else 0
+    return [told, greatest_close(friends, s)]

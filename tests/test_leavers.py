@@ -22,11 +22,6 @@ def leave_by_hand(n, k, w, friends, groups):
     return [len(sets)] + sets
 
 
-def groups_of_sets(n, sets):
-    """Groups, told by the sets of those who are in each."""
-    return [[i in people_of(s) for s in sets].index(True) for i in range(n)]
-
-
 class LeaversAsked(AskedOfGroups, unittest.TestCase):
     def ask_groups(self, n, k, friends, groups):
         return people.leavers(n, k, 0, friends, groups)
@@ -124,29 +119,6 @@ class Leavers(unittest.TestCase):
         self.check([2, 4, 1], [2, 2, 2], [[0], [0], [3, 1, 2, 4], [3, 1, 2, 4]])
         self.check([2, 4, 1], [2, 1, 0], [[1, 7], [1, 7], [0], [0]])
         self.check([0] * 5, [4] * 5, [[30] + list(range(1, 31))] * 4)
-
-    def test_friends_first_nobody_would_leave_the_rings(self):
-        for n in range(1, 5):
-            for friends in all_friends(n):
-                self.rings_hold(n, friends)
-        for friends in some_friends(5) + all_friends(5, 1009):
-            self.rings_hold(5, friends)
-
-    def rings_hold(self, n, friends):
-        groups = people.rings(n, friends)[1:]
-        for w in (0, 1):
-            self.assertEqual(people.leavers(n, 0, w, friends, groups), [0], (w, friends))
-
-    def test_foes_first_nobody_would_leave_what_is_peeled(self):
-        for n in range(1, 5):
-            for friends in all_friends(n):
-                self.peeled_holds(n, friends)
-        for friends in some_friends(5) + all_friends(5, 1009):
-            self.peeled_holds(5, friends)
-
-    def peeled_holds(self, n, friends):
-        groups = groups_of_sets(n, people.peeled(n, friends)[1:])
-        self.assertEqual(people.leavers(n, 1, 0, friends, groups), [0], friends)
 
     def test_all_friends_and_groups_of_up_to_three_as_left_by_hand(self):
         for n in range(1, 4):

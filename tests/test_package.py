@@ -5,6 +5,7 @@ import contextlib
 import inspect
 import io
 import pathlib
+import re
 import unittest
 
 import ringsheld
@@ -17,10 +18,12 @@ CALLS = {
     "worths": ["n", "k", "friends", "groups"],
     "leavers": ["n", "k", "w", "friends", "groups"],
     "core": ["n", "k", "w", "friends"],
+    "close": ["n", "s", "friends"],
 }
-GOOD = {"n": 3, "k": 1, "w": 1, "friends": [2, 4, 1], "groups": [0, 2, 0]}
-REFUSED = {"n": 0, "k": 2, "w": 2, "friends": [], "groups": []}
+GOOD = {"n": 3, "k": 1, "w": 1, "s": 5, "friends": [2, 4, 1], "groups": [0, 2, 0]}
+REFUSED = {"n": 0, "k": 2, "w": 2, "s": 8, "friends": [], "groups": []}
 OWN_NAMES = ("len", "range")
+README = FOLDER.parent / "README.md"
 
 
 def sources():
@@ -32,6 +35,13 @@ class Package(unittest.TestCase):
         for name, arguments in CALLS.items():
             with self.subTest(name):
                 self.assertEqual(list(inspect.signature(getattr(people, name)).parameters), arguments)
+
+    def test_the_calls_in_the_readme_answer_as_it_says(self):
+        rows = re.findall(r"^(\w+)\((.*)\) +# (\[.*?\]):", README.read_text(encoding="utf-8"), re.MULTILINE)
+        self.assertEqual({name for name, handed, answer in rows}, set(CALLS))
+        for name, handed, answer in rows:
+            with self.subTest(name, handed=handed):
+                self.assertEqual(getattr(people, name)(*ast.literal_eval(f"[{handed}]")), ast.literal_eval(answer))
 
     def test_nothing_is_printed(self):
         said = io.StringIO()

@@ -4,16 +4,8 @@ import itertools
 import unittest
 
 from ringsheld import people
-from tests.cases import Asked, all_friends
+from tests.cases import Asked, all_friends, are_close, number_of
 from tests.cases import people as people_of
-
-
-def number(members):
-    return sum(2 ** i for i in members)
-
-
-def are_close(friends, members):
-    return all(j in people_of(friends[i]) for i in members for j in members if i != j)
 
 
 def peel_by_hand(friends):
@@ -22,7 +14,7 @@ def peel_by_hand(friends):
     sets = []
     while left:
         for many in range(len(left), 0, -1):
-            close = [number(s) for s in itertools.combinations(left, many) if are_close(friends, s)]
+            close = [number_of(s) for s in itertools.combinations(left, many) if are_close(friends, s)]
             if close:
                 break
         sets.append(min(close))
